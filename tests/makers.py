@@ -1,0 +1,116 @@
+"""Fences for the tests, and checks that several test files use."""
+
+import random
+import time
+import unittest
+
+from baysout.errors import BadFence
+from baysout.fences import Fence
+
+SQUARE = ((0, 0), (4, 0), (4, 4), (0, 4))
+NOTCH = ((0, 0), (4, 0), (4, 4), (2, 2), (0, 4))
+COMB = ((0, 0), (6, 0), (6, 3), (5, 1), (4, 3), (3, 3), (2, 1), (0, 3))
+TUB = ((0, 0), (6, 0), (6, 6), (4, 6), (4, 2), (2, 2), (2, 6), (0, 6))
+HOOK = ((0, 0), (10, 0), (10, 10), (0, 10), (0, 3), (7, 3), (7, 6), (6, 6), (6, 4), (1, 4), (1, 9), (9, 9), (9, 1), (0, 1))
+# Straight corners on the lower side, corner 0 one of them.
+RULED = ((2, 0), (3, 0), (6, 0), (6, 6), (0, 6), (0, 0), (1, 0))
+
+GREAT = 10 ** 30
+# What is no integer, no point, no fence, no list of anything.
+NOTHING = (None, True, False, 1.0, "", "12", b"12", {}, set(), object(), [], (), [None], [1], (1, 2, 3))
+NO_INTEGERS = NOTHING + ((0,), "0")
+NO_POINTS = NOTHING + (0, 7, (1, True), (False, 0), [1, "2"], (1.0, 2), (None, 1), "ab", {1: 2, 3: 4}, {1, 2}, ((1, 2), (3, 4)))
+NO_FENCES = NOTHING + (0, SQUARE, list(SQUARE), "0 0 / 4 0 / 4 4", Fence)
+
+SECONDS = 1.5
+
+
+def fences_of_all_kinds():
+    """Small fences by hand, and many that are put together at random, the same ones each time."""
+    fences = [Fence(corners) for corners in (SQUARE, NOTCH, COMB, TUB, HOOK, RULED)]
+    fences += [Fence(spiral_corners(arms)) for arms in (1, 2, 3, 4, 5, 9, 14)]
+    numbers = random.Random(20)
+    for many in range(3, 15):
+        fences += [random_fence(numbers, many, size) for size in (3, 4, 6, 9) for _ in range(3)]
+    return fences
+
+
+def random_fence(numbers, many, size):
+    """A fence of about so many corners within a square: points are put in where they may stand."""
+    while True:
+        row = [(numbers.randint(0, size), numbers.randint(0, size)) for _ in range(3)]
+        fence = fence_or_none(row) or fence_or_none(row[::-1])
+        if fence is not None:
+            break
+    for _ in range(60):
+        if fence.many >= many:
+            break
+        at = numbers.randint(1, fence.many)
+        point = (numbers.randint(0, size), numbers.randint(0, size))
+        fence = fence_or_none(fence.corners[:at] + (point,) + fence.corners[at:]) or fence
+    begin = numbers.randrange(fence.many)
+    return Fence(fence.corners[begin:] + fence.corners[:begin])
+
+
+def fence_or_none(corners):
+    try:
+        return Fence(corners)
+    except BadFence:
+        return None
+
+
+def spiral_corners(arms):
+    """The corners of a way one wide that winds outward, by so many arms, to the left."""
+    ways = ((1, 0), (0, 1), (-1, 0), (0, -1))
+    right, left = [(0, 0)], [(0, 1)]
+    x, y = 0, 0
+    for arm in range(arms):
+        (a, b), (c, d) = ways[arm % 4], ways[(arm + 1) % 4]
+        x, y = x + a * (arm // 2 + 1) * 2, y + b * (arm // 2 + 1) * 2
+        # The unit square at x, y: its corner away from the next arm, and the one towards it.
+        right.append((x + (a - c + 1) // 2, y + (b - d + 1) // 2))
+        last = arm == arms - 1
+        inner = (a + c + 1) // 2 if last else (c - a + 1) // 2
+        upper = (b + d + 1) // 2 if last else (d - b + 1) // 2
+        left.append((x + inner, y + upper))
+    return right + left[::-1]
+
+
+def comb_corners(many, height):
+    """So many corners (even) of a comb whose teeth are one wide; all points of teeth lie on one hull edge."""
+    teeth = many // 4
+    row = [(0, 0), (2 * teeth - 1, 0)]
+    for tooth in range(teeth - 1, -1, -1):
+        row += [(2 * tooth + 1, height), (2 * tooth, height)]
+        if tooth > 0:
+            row += [(2 * tooth, 1), (2 * tooth - 1, 1)]
+    return row
+
+
+def slanted(corners, factor=1):
+    """Corners turned by an eighth and grown: no side goes east or north, and all boxes overlap."""
+    return [((x - y) * factor, (x + y) * factor) for x, y in corners]
+
+
+class Case(unittest.TestCase):
+    """What the tests of all files use."""
+
+    def raises(self, error, fields, function, *args, **named):
+        """Checks that a call raises just this error, with these fields."""
+        with self.assertRaises(error) as caught:
+            function(*args, **named)
+        self.assertIs(type(caught.exception), error)
+        self.assertEqual(tuple(vars(caught.exception).values()), fields)
+
+    def no_fence_first(self, function, *more):
+        """Checks that a function wants a Fence, ahead of all else."""
+        for value in NO_FENCES:
+            with self.subTest(function=function, value=value):
+                self.raises(BadFence, ("fence",), function, value, *more)
+
+    def is_short(self, function, *args):
+        """Checks that a call comes to an end in a short time; returns what it returns."""
+        begin = time.perf_counter()
+        value = function(*args)
+        self.assertLess(time.perf_counter() - begin, SECONDS, function)
+        return value

@@ -1,0 +1,151 @@
+"""What the document tells, found in other, slower ways: by fractions, by angles, by trying all."""
+
+from fractions import Fraction
+from math import atan2, pi
+
+
+def cross(one, other):
+    return one[0] * other[1] - one[1] * other[0]
+
+
+def less(one, other):
+    return (one[0] - other[0], one[1] - other[1])
+
+
+def on_stretch(one, other, point):
+    """Whether a point is one + t (other - one), t from 0 to 1."""
+    along, there = less(other, one), less(point, one)
+    if along == (0, 0):
+        return there == (0, 0)
+    k = 0 if along[0] != 0 else 1
+    t = Fraction(there[k]) / along[k]
+    return 0 <= t <= 1 and all(t * along[i] == there[i] for i in (0, 1))
+
+
+def common_points(one, other, third, fourth):
+    """Points that two stretches have in common: the ends of what they share, or the one point."""
+    points = {end for end in (one, other) if on_stretch(third, fourth, end)}
+    points |= {end for end in (third, fourth) if on_stretch(one, other, end)}
+    along, across = less(other, one), less(fourth, third)
+    if cross(along, across) != 0:
+        t = Fraction(cross(less(third, one), across), cross(along, across))
+        u = Fraction(cross(less(third, one), along), cross(along, across))
+        if 0 <= t <= 1 and 0 <= u <= 1:
+            points.add((one[0] + t * along[0], one[1] + t * along[1]))
+    return points
+
+
+def ring(corners):
+    """The sides, as pairs of their ends."""
+    return list(zip(corners, list(corners[1:]) + list(corners[:1])))
+
+
+def is_fence_row(corners):
+    """Whether points are the corners of a fence, by what [4] says of its sides."""
+    many, sides = len(corners), ring(corners)
+    if many < 3 or many > 400 or len(set(corners)) < many:
+        return False
+    for i in range(many):
+        for j in range(i):
+            shared = common_points(*sides[i], *sides[j])
+            wanted = set()
+            if (i - j) % many == 1:
+                wanted.add(corners[i])
+            if (j - i) % many == 1:
+                wanted.add(corners[j])
+            if shared != wanted:
+                return False
+    return sum(cross(one, other) for one, other in sides) > 0
+
+
+def place_of(corners, point):
+    """Where a point is: by the sides that a line eastward from it meets."""
+    if any(on_stretch(one, other, point) for one, other in ring(corners)):
+        return "rim"
+    met = 0
+    for one, other in ring(corners):
+        if (one[1] > point[1]) != (other[1] > point[1]):
+            t = Fraction(point[1] - one[1]) / (other[1] - one[1])
+            met += one[0] + t * (other[0] - one[0]) > point[0]
+    return "within" if met % 2 else "off"
+
+
+def box_of(corners, more=1):
+    """All points of the box about corners, and around it."""
+    low_x, high_x = min(x for x, _ in corners) - more, max(x for x, _ in corners) + more
+    low_y, high_y = min(y for _, y in corners) - more, max(y for _, y in corners) + more
+    return [(x, y) for x in range(low_x, high_x + 1) for y in range(low_y, high_y + 1)]
+
+
+def is_covered(one, other):
+    """Whether the land in other lies on that in one: each side is parted wherever sides of one meet it."""
+    for start, end in ring(other):
+        marks = {start, end}
+        for low, high in ring(one):
+            marks |= common_points(start, end, low, high)
+        row = sorted(marks)
+        for low, high in zip(row, row[1:]):
+            middle = (Fraction(low[0] + high[0]) / 2, Fraction(low[1] + high[1]) / 2)
+            if place_of(one, middle) == "off":
+                return False
+    return all(place_of(one, corner) != "off" for corner in other)
+
+
+def hull_numbers(corners):
+    """The corners that lie on no stretch between others, and in no triangle of others."""
+    numbers = []
+    for at, corner in enumerate(corners):
+        others = [other for other in corners if other != corner]
+        # A corner of the hull has all others strictly within some half plane through it: so it is
+        # no corner if others lie on both sides of it on each line through it and another corner.
+        if not in_hull_of(others, corner):
+            numbers.append(at)
+    return tuple(numbers)
+
+
+def in_hull_of(points, spot):
+    """Whether a spot is within the hull of points: there is no line that parts it from them."""
+    for one in points:
+        for other in points:
+            side = less(other, one)
+            if one != other and cross(side, less(spot, one)) < 0 and all(
+                    cross(side, less(point, one)) >= 0 for point in points):
+                return False
+    # All points may lie on one line.
+    base = less(points[1], points[0])
+    if all(cross(base, less(point, points[0])) == 0 for point in points):
+        if cross(base, less(spot, points[0])) != 0:
+            return False
+        return min(points) <= spot <= max(points)
+    return True
+
+
+def all_mouths(corners):
+    """All mouths, and the first ones, pair by pair as [5] tells them."""
+    many, hull = len(corners), hull_numbers(corners)
+    mouths, first = [], []
+    for a, b in zip(hull, hull[1:] + hull[:1]):
+        row = [(a + k) % many for k in range((b - a) % many + 1)]
+        base = less(corners[b], corners[a])
+        on_line = {at: cross(base, less(corners[at], corners[a])) == 0 for at in row}
+        found = []
+        for i, p in enumerate(row):
+            for j in range(i + 1, len(row)):
+                inner = row[i:j + 1]
+                if on_line[p] and on_line[row[j]] and not all(on_line[at] for at in inner):
+                    found.append((i, j))
+        mouths += [(row[i], row[j]) for i, j in found]
+        if found:
+            i, j = min(found)
+            first.append((row[i], row[j]))
+    return tuple(sorted(mouths)), tuple(sorted(first))
+
+
+def lifted_angles(corners):
+    """For each side how far one has turned in all, in radians, side 0 between 0 and a whole turn."""
+    sides = [less(other, one) for one, other in ring(corners)]
+    angles = [atan2(sides[0][1], sides[0][0]) % (2 * pi)]
+    for before, side in zip(sides, sides[1:]):
+        dot = before[0] * side[0] + before[1] * side[1]
+        angles.append(angles[-1] + atan2(cross(before, side), dot))
+    return angles

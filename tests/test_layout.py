@@ -1,0 +1,71 @@
+"""That the interface stands in the files that list it, and that files keep to the sizes that are set."""
+
+import ast
+import pathlib
+import unittest
+
+FOLDER = pathlib.Path(__file__).parent.parent / "baysout"
+LIBRARY = {"math": ("gcd",)}
+INTERFACE = {
+    "errors": "FenceError BadNumber BadPoint BadFence BadMouth BadFilm BadWord BadName BadPaper Misfit NoName Twice"
+              " TooMany BadText BadLine",
+    "checks": "is_integer is_within is_point",
+    "papers": "Paper Denial fixed",
+    "points": "side_of do_meet",
+    "fences": "Fence where points_of",
+}
+METHODS = {
+    "Paper": {"__init__", "__eq__", "__bool__"}, "Denial": {"__init__", "__eq__", "__bool__"},
+    "Fence": {"__init__", "__eq__", "__str__", "read"},
+}
+
+
+def trees():
+    return {path.stem: ast.parse(path.read_text()) for path in sorted(FOLDER.glob("*.py"))}
+
+
+class Layout(unittest.TestCase):
+    def test_interface_is_defined_in_its_files(self):
+        for name, words in INTERFACE.items():
+            body = trees()[name].body
+            there = {node.name: node for node in body if isinstance(node, (ast.FunctionDef, ast.ClassDef))}
+            self.assertLessEqual(set(words.split()), set(there), name)
+            for word in set(words.split()) & set(METHODS):
+                methods = {node.name for node in there[word].body if isinstance(node, ast.FunctionDef)}
+                self.assertLessEqual(METHODS[word], methods)
+
+    def test_only_files_of_the_package(self):
+        for path in FOLDER.iterdir():
+            if path.name != "__pycache__":
+                self.assertRegex(path.name, r"^[a-z_]+\.py$")
+
+    def test_sizes_and_characters(self):
+        for path in FOLDER.glob("*.py"):
+            text = path.read_text(encoding="utf-8")
+            self.assertLessEqual(set(text), set(map(chr, range(32, 127))) | {"\n"}, path)
+            self.assertLessEqual(len(text.splitlines()), 399, path)
+            self.assertLessEqual(max(len(line) for line in text.splitlines()), 120, path)
+        for name, tree in trees().items():
+            for node in ast.walk(tree):
+                if isinstance(node, ast.FunctionDef):
+                    self.assertLessEqual(node.end_lineno - node.lineno + 1, 40, (name, node.name))
+
+    def test_imports(self):
+        for name, tree in trees().items():
+            for node in ast.walk(tree):
+                self.assertNotIsInstance(node, ast.Import, name)
+                if isinstance(node, ast.ImportFrom):
+                    words = [alias.name for alias in node.names]
+                    self.assertEqual(node.level, 0)
+                    if node.module in LIBRARY:
+                        self.assertLessEqual(set(words), set(LIBRARY[node.module]))
+                        continue
+                    self.assertTrue(node.module.startswith("baysout."), (name, node.module))
+                    body = trees()[node.module.split(".")[1]].body
+                    there = {each.name for each in body if isinstance(each, (ast.FunctionDef, ast.ClassDef))}
+                    there |= {each.targets[0].id for each in body if isinstance(each, ast.Assign)}
+                    self.assertLessEqual(set(words), there, (name, node.module))
+
+
+if __name__ == "__main__":
+    unittest.main()
