@@ -1,19 +1,26 @@
 """Every example of the document, as it stands there, one file a section in the folder examples.
 
-Names stay as earlier sections made them last, as the document says.
+Names stay as earlier sections made them last, as the document says. The example of lifts that
+uses `stages` is left out until baysout/films.py is there; test_lifts.py tests what it tells.
 """
 
 import ast
 import pathlib
 import unittest
 
+import baysout.changed
 import baysout.checks
 import baysout.fences
+import baysout.hulls
+import baysout.lifts
+import baysout.mouths
 import baysout.papers
 import baysout.points
+import baysout.turnings
 
 MODULES = (
-    baysout.checks, baysout.papers, baysout.points, baysout.fences,
+    baysout.checks, baysout.papers, baysout.points, baysout.fences, baysout.changed,
+    baysout.hulls, baysout.mouths, baysout.turnings, baysout.lifts,
 )
 FOLDER = pathlib.Path(__file__).parent / "examples"
 
@@ -58,7 +65,7 @@ class Examples(unittest.TestCase):
                 many += 1
                 with self.subTest(section=section, statement=statement):
                     self.assertEqual(outcome_of(statement, names), wanted_of(told))
-        self.assertEqual(many, 15)
+        self.assertEqual(many, 40)
 
 
 if __name__ == "__main__":

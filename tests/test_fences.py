@@ -166,14 +166,16 @@ class Places(Case):
     def test_great_fences(self):
         fence = Fence([(x * GREAT, y * GREAT) for x, y in NOTCH])
         for point, told in (
-            ((2 * GREAT, 2 * GREAT), "rim"), ((2 * GREAT, 2 * GREAT - 1), "within"), ((2 * GREAT, 2 * GREAT + 1), "off"),
+            ((2 * GREAT, 2 * GREAT), "rim"), ((2 * GREAT, 2 * GREAT - 1), "within"),
+            ((2 * GREAT, 2 * GREAT + 1), "off"),
             ((3 * GREAT + 1, 3 * GREAT + 1), "rim"), ((3 * GREAT + 1, 3 * GREAT), "within"),
             ((3 * GREAT, 3 * GREAT + 1), "off"), ((1, 1), "within"), ((-1, 0), "off"), ((1, 0), "rim"), ((0, 0), "rim"),
         ):
             self.assertEqual(where(fence, point), told, point)
         slim = Fence(((0, 0), (GREAT, GREAT + 1), (0, 1)))
         self.assertEqual([where(slim, (at, at)) for at in (0, 1, GREAT - 1, GREAT)], ["rim", "off", "off", "off"])
-        self.assertEqual([where(slim, (at, at + 1)) for at in (-1, 0, 1, GREAT, GREAT + 1)], ["off", "rim", "rim", "rim", "off"])
+        along = [where(slim, (at, at + 1)) for at in (-1, 0, 1, GREAT, GREAT + 1)]
+        self.assertEqual(along, ["off", "rim", "rim", "rim", "off"])
 
     def test_wrong_values(self):
         self.no_fence_first(where, None)

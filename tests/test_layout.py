@@ -13,6 +13,11 @@ INTERFACE = {
     "papers": "Paper Denial fixed",
     "points": "side_of do_meet",
     "fences": "Fence where points_of",
+    "changed": "moved turned mirrored begun grown with_corner without_corner straightened",
+    "hulls": "hull_of hull_edges is_convex covers",
+    "mouths": "mouths_of first_mouths stretch_of bay_area2",
+    "turnings": "turned_out",
+    "lifts": "direction_of directions_of lifts_of ranks_of to_and_fro lifted_less",
 }
 METHODS = {
     "Paper": {"__init__", "__eq__", "__bool__"}, "Denial": {"__init__", "__eq__", "__bool__"},

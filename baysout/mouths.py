@@ -1,0 +1,82 @@
+"""Mouths: where a fence leaves its hull, into bays."""
+
+from baysout.checks import is_point
+from baysout.errors import BadMouth
+from baysout.fences import want_fence
+from baysout.hulls import hull_edges
+from baysout.outlines import twice_area
+from baysout.points import cross_of
+
+
+def numbers_from(p, q, many):
+    """The numbers of corners from p to q, counted round."""
+    last = q if q >= p else q + many
+    return [at % many for at in range(p, last + 1)]
+
+
+def edge_rows(fence):
+    """For each hull edge the corners on its line: pairs of how far on from its first corner, and the number."""
+    corners = fence.corners
+    rows = []
+    for a, b in hull_edges(fence):
+        stretch = numbers_from(a, b, fence.many)
+        on_line = [cross_of(corners[a], corners[b], corners[at]) == 0 for at in stretch]
+        rows.append([(far, at) for far, at in enumerate(stretch) if on_line[far]])
+    return rows
+
+
+def leaves_line(row, k, j):
+    """Whether the fence leaves the line of a row somewhere from its entry k on to its entry j."""
+    return k < j and row[j][0] - row[k][0] > j - k
+
+
+def mouths_of(fence):
+    """All mouths, ascending."""
+    want_fence(fence, "fence")
+    mouths = []
+    for row in edge_rows(fence):
+        for k, (_, p) in enumerate(row):
+            mouths.extend([(p, row[j][1]) for j in range(k + 1, len(row)) if leaves_line(row, k, j)])
+    return tuple(sorted(mouths))
+
+
+def first_mouths(fence):
+    """The first mouths of all hull edges that have one, ascending."""
+    want_fence(fence, "fence")
+    mouths = []
+    for row in edge_rows(fence):
+        found = [row[j][1] for j in range(1, len(row)) if leaves_line(row, j - 1, j)]
+        if found:
+            mouths.append((row[0][1], found[0]))
+    return tuple(sorted(mouths))
+
+
+def is_mouth(fence, value):
+    """Whether any value is a mouth of the fence."""
+    if not is_point(value):
+        return False
+    p, q = value
+    for row in edge_rows(fence):
+        numbers = [at for _, at in row]
+        if p in numbers and q in numbers and leaves_line(row, numbers.index(p), numbers.index(q)):
+            return True
+    return False
+
+
+def want_mouth(fence, value):
+    """Raises BadMouth for any value that is no mouth of the fence."""
+    if not is_mouth(fence, value):
+        raise BadMouth("mouth")
+
+
+def stretch_of(fence, mouth):
+    """The numbers of the corners of the mouth's stretch, in the order along the fence."""
+    want_fence(fence, "fence")
+    want_mouth(fence, mouth)
+    return tuple(numbers_from(mouth[0], mouth[1], fence.many))
+
+
+def bay_area2(fence, mouth):
+    """Twice the area of all bays between the mouth's line and its stretch."""
+    # Back along the mouth's line the stretch is closed; it goes round the bays at its right hand.
+    return -twice_area([fence.corners[at] for at in stretch_of(fence, mouth)])
