@@ -54,7 +54,8 @@ class Texts(Case):
     def test_each_kind_of_item_at_each_place(self):
         items = TRIANGLE.split(" ")
         wrong = ("+4", "04", "00", "-0", "-00", "-04", "--4", "4-", "-", "+", "x", "0x1", "1_0", "4.0", "1e1", "4,",
-                 "/4", "//", "|", "", "\t4", "4\n", "\n", "\u0664", "\u00b2", "\uff14", "True", "1" * 141, "-" + "1" * 141)
+                 "/4", "//", "|", "", "\t4", "4\n", "\n", "\u0664", "\u00b2", "\uff14", "True", "1" * 141,
+                 "-" + "1" * 141)
         for at in range(len(items)):
             for item in wrong + (("4", "0", "-1") if at % 3 == 2 else ("/",)):
                 self.bad(at, " ".join(items[:at] + [item] + items[at + 1:]))
