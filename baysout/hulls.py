@@ -15,25 +15,41 @@ def half_hull(spots):
     return kept
 
 
-def hull_of(fence):
-    """The numbers of the hull corners, ascending."""
-    want_fence(fence, "fence")
-    spots = sorted([(x, y, at) for at, (x, y) in enumerate(fence.corners)])
+def hull_among(corners):
+    """The numbers of the hull corners among the corners of a fence, ascending."""
+    spots = sorted([(x, y, at) for at, (x, y) in enumerate(corners)])
     # Each half ends where the other one begins.
     lower, upper = half_hull(spots), half_hull(spots[::-1])
     return tuple(sorted([at for _, _, at in lower[:-1] + upper[:-1]]))
 
 
+def edges_among(corners):
+    """The hull edges among the corners of a fence, ascending."""
+    hull = hull_among(corners)
+    return tuple(zip(hull, hull[1:] + hull[:1]))
+
+
+def are_convex(corners):
+    """Whether a fence of these corners turns right nowhere."""
+    return all([turn_at(corners, at) >= 0 for at in range(len(corners))])
+
+
+def hull_of(fence):
+    """The numbers of the hull corners, ascending."""
+    want_fence(fence, "fence")
+    return hull_among(fence.corners)
+
+
 def hull_edges(fence):
     """The hull edges, ascending."""
-    hull = hull_of(fence)
-    return tuple(zip(hull, hull[1:] + hull[:1]))
+    want_fence(fence, "fence")
+    return edges_among(fence.corners)
 
 
 def is_convex(fence):
     """Whether the fence turns right nowhere."""
     want_fence(fence, "fence")
-    return all([turn_at(fence.corners, at) >= 0 for at in range(fence.many)])
+    return are_convex(fence.corners)
 
 
 def ends_of(fence):

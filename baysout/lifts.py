@@ -99,6 +99,11 @@ def to_and_fro(fence):
     return sum([abs(other - one) for one, other in zip(ranks, following)])
 
 
+def most_bites(fence):
+    """Half of T - s: how often the fence can come to turn to and fro by 2 less."""
+    return (to_and_fro(fence) - len(directions_of(fence))) // 2
+
+
 def is_lifted(value):
     """Whether any value is a pair of an integer and a direction."""
     if not isinstance(value, (list, tuple)) or len(value) != 2:

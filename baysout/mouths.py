@@ -1,9 +1,12 @@
-"""Mouths: where a fence leaves its hull, into bays."""
+"""Mouths: where a fence leaves its hull, into bays.
+
+What is told of corners expects those of a fence, as tuples.
+"""
 
 from baysout.checks import is_point
 from baysout.errors import BadMouth
 from baysout.fences import want_fence
-from baysout.hulls import hull_edges
+from baysout.hulls import edges_among
 from baysout.outlines import twice_area
 from baysout.points import cross_of
 
@@ -14,12 +17,11 @@ def numbers_from(p, q, many):
     return [at % many for at in range(p, last + 1)]
 
 
-def edge_rows(fence):
+def edge_rows(corners):
     """For each hull edge the corners on its line: pairs of how far on from its first corner, and the number."""
-    corners = fence.corners
     rows = []
-    for a, b in hull_edges(fence):
-        stretch = numbers_from(a, b, fence.many)
+    for a, b in edges_among(corners):
+        stretch = numbers_from(a, b, len(corners))
         on_line = [cross_of(corners[a], corners[b], corners[at]) == 0 for at in stretch]
         rows.append([(far, at) for far, at in enumerate(stretch) if on_line[far]])
     return rows
@@ -30,50 +32,55 @@ def leaves_line(row, k, j):
     return k < j and row[j][0] - row[k][0] > j - k
 
 
-def mouths_of(fence):
-    """All mouths, ascending."""
-    want_fence(fence, "fence")
-    mouths = []
-    for row in edge_rows(fence):
-        for k, (_, p) in enumerate(row):
-            mouths.extend([(p, row[j][1]) for j in range(k + 1, len(row)) if leaves_line(row, k, j)])
-    return tuple(sorted(mouths))
-
-
-def first_mouths(fence):
+def first_among(corners):
     """The first mouths of all hull edges that have one, ascending."""
-    want_fence(fence, "fence")
     mouths = []
-    for row in edge_rows(fence):
+    for row in edge_rows(corners):
         found = [row[j][1] for j in range(1, len(row)) if leaves_line(row, j - 1, j)]
         if found:
             mouths.append((row[0][1], found[0]))
     return tuple(sorted(mouths))
 
 
-def is_mouth(fence, value):
-    """Whether any value is a mouth of the fence."""
+def has_mouth(corners, value):
+    """Whether any value is a mouth of a fence of these corners."""
     if not is_point(value):
         return False
     p, q = value
-    for row in edge_rows(fence):
+    for row in edge_rows(corners):
         numbers = [at for _, at in row]
         if p in numbers and q in numbers and leaves_line(row, numbers.index(p), numbers.index(q)):
             return True
     return False
 
 
-def want_mouth(fence, value):
-    """Raises BadMouth for any value that is no mouth of the fence."""
-    if not is_mouth(fence, value):
+def stretch_along(corners, mouth):
+    """The numbers of the corners of a mouth's stretch; raises BadMouth for any value that is no mouth."""
+    if not has_mouth(corners, mouth):
         raise BadMouth("mouth")
+    return numbers_from(mouth[0], mouth[1], len(corners))
+
+
+def mouths_of(fence):
+    """All mouths, ascending."""
+    want_fence(fence, "fence")
+    mouths = []
+    for row in edge_rows(fence.corners):
+        for k, (_, p) in enumerate(row):
+            mouths.extend([(p, row[j][1]) for j in range(k + 1, len(row)) if leaves_line(row, k, j)])
+    return tuple(sorted(mouths))
+
+
+def first_mouths(fence):
+    """The first mouths, ascending."""
+    want_fence(fence, "fence")
+    return first_among(fence.corners)
 
 
 def stretch_of(fence, mouth):
     """The numbers of the corners of the mouth's stretch, in the order along the fence."""
     want_fence(fence, "fence")
-    want_mouth(fence, mouth)
-    return tuple(numbers_from(mouth[0], mouth[1], fence.many))
+    return tuple(stretch_along(fence.corners, mouth))
 
 
 def bay_area2(fence, mouth):

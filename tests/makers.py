@@ -1,11 +1,14 @@
 """Fences for the tests, and checks that several test files use."""
 
+import functools
 import random
 import time
 import unittest
 
 from baysout.errors import BadFence
 from baysout.fences import Fence
+from baysout.mouths import edge_rows, leaves_line
+from baysout.turnings import corners_out, turned_out
 
 SQUARE = ((0, 0), (4, 0), (4, 4), (0, 4))
 NOTCH = ((0, 0), (4, 0), (4, 4), (2, 2), (0, 4))
@@ -13,6 +16,11 @@ COMB = ((0, 0), (6, 0), (6, 3), (5, 1), (4, 3), (3, 3), (2, 1), (0, 3))
 TUB = ((0, 0), (6, 0), (6, 6), (4, 6), (4, 2), (2, 2), (2, 6), (0, 6))
 HOOK = (
     (0, 0), (10, 0), (10, 10), (0, 10), (0, 3), (7, 3), (7, 6), (6, 6), (6, 4), (1, 4), (1, 9), (9, 9), (9, 1), (0, 1),
+)
+# Both have many films; the first one just 300 unlike stages, the second one 301.
+MANY = ((6, 5), (3, 9), (5, 2), (3, 5), (0, 7), (1, 6), (0, 4), (2, 2), (4, 3), (2, 1), (7, 1), (7, 9))
+TOO_MANY = (
+    (5, 5), (13, 10), (12, 6), (18, 10), (20, 3), (20, 20), (10, 12), (12, 20), (4, 16), (7, 8), (3, 6),
 )
 # Straight corners on the lower side, corner 0 one of them.
 RULED = ((2, 0), (3, 0), (6, 0), (6, 6), (0, 6), (0, 0), (1, 0))
@@ -89,6 +97,44 @@ def comb_corners(many, height):
         if tooth > 0:
             row += [(2 * tooth, 1), (2 * tooth - 1, 1)]
     return row
+
+
+def swinging_corners(steep, slope):
+    """The corners of a zigzag of 33 points, the first ones ever steeper, which turns to and fro by much."""
+    tops = [100 + (3 * k * k if k < steep else slope * k) for k in range(33)]
+    row = [(0, 0), (66, 0)]
+    for k in range(32, -1, -1):
+        row.append((2 * k + 1, tops[k]))
+        if k > 0:
+            row.append((2 * k, k))
+    return row
+
+
+def film_by(fence, choose, numbers):
+    """A film that ends, its mouths taken at random among those that are told."""
+    film = []
+    while choose(fence):
+        film.append(numbers.choice(choose(fence)))
+        fence = turned_out(fence, film[-1])
+    return film
+
+
+@functools.cache
+def narrow_film():
+    """The corners of a zigzag at each stage of a film that turns out the narrowest mouth always."""
+    row = [(0, 0), (220, 0)]
+    for k in range(109, -1, -1):
+        row += [(2 * k + 1, 1000 + k * k), (2 * k, k)]
+    told, film = [tuple(row[:-1])], []
+    while True:
+        mouths = []
+        for row in edge_rows(told[-1]):
+            mouths += [(row[j][0] - row[j - 1][0], row[j - 1][1], row[j][1]) for j in range(1, len(row))
+                       if leaves_line(row, j - 1, j)]
+        if not mouths:
+            return told, film
+        film.append(min(mouths)[1:])
+        told.append(corners_out(told[-1], film[-1]))
 
 
 def slanted(corners, factor=1):

@@ -149,3 +149,32 @@ def lifted_angles(corners):
         dot = before[0] * side[0] + before[1] * side[1]
         angles.append(angles[-1] + atan2(cross(before, side), dot))
     return angles
+
+
+def sorted_places(corners):
+    """The places of all sides: the endless row is written down, for many rounds, and put in order."""
+    angles, many = lifted_angles(corners), len(corners)
+    more = 3 + int((max(angles) - min(angles)) / pi)
+    row = sorted((round(angles[at] + 2 * pi * k, 6), at + many * k) for at in range(many) for k in range(-more, more + 1))
+    found = {number: place for place, (_, number) in enumerate(row)}
+    less = sum(found[at] - at for at in range(many))
+    assert less % many == 0
+    return [found[at] - less // many for at in range(many)]
+
+
+def field_by_places(corners):
+    """The corner at place 0, the sides in order from there, and the corners that are no straight ones."""
+    many, places = len(corners), sorted_places(corners)
+    sides = [less(other, one) for one, other in ring(corners)]
+    spot = corners[0]
+    for side, place in zip(sides, places):
+        times = (place - place % many) // many
+        spot = (spot[0] - side[0] * times, spot[1] - side[1] * times)
+    row = [side for place in range(many) for side, its in zip(sides, places) if its % many == place]
+    walked = [spot]
+    for side in row:
+        walked.append((walked[-1][0] + side[0], walked[-1][1] + side[1]))
+    assert walked.pop() == spot
+    kept = [corner for at, corner in enumerate(walked) if cross(row[at - 1], row[at]) != 0]
+    at = kept.index(min(kept))
+    return (spot, tuple(row)), tuple(kept[at:] + kept[:at])

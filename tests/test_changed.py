@@ -4,7 +4,7 @@ from baysout.changed import begun, grown, mirrored, moved, straightened, turned,
 from baysout.errors import BadNumber, BadPoint, Misfit, TooMany
 from baysout.fences import Fence
 from tests.makers import (
-    COMB, GREAT, HOOK, NO_INTEGERS, NO_POINTS, NOTCH, RULED, SQUARE, Case, comb_corners, fences_of_all_kinds, slanted,
+    GREAT, NO_INTEGERS, NO_POINTS, NOTCH, RULED, SQUARE, Case, comb_corners, fences_of_all_kinds, slanted,
     spiral_corners,
 )
 

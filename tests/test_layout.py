@@ -17,11 +17,17 @@ INTERFACE = {
     "hulls": "hull_of hull_edges is_convex covers",
     "mouths": "mouths_of first_mouths stretch_of bay_area2",
     "turnings": "turned_out",
+    "films": "played stages film_out film_text film_of",
     "lifts": "direction_of directions_of lifts_of ranks_of to_and_fro lifted_less",
+    "ends": "sorted_row end_of way_in width_in Ended ended",
+    "check_ends": "ends_at shows_ended",
+    "counts": "Least Most First Second bite at_most all_stages film_counts least_film most_film winner",
+    "check_counts": "shows_least shows_most shows_winner",
 }
 METHODS = {
     "Paper": {"__init__", "__eq__", "__bool__"}, "Denial": {"__init__", "__eq__", "__bool__"},
     "Fence": {"__init__", "__eq__", "__str__", "read"},
+    "Ended": {"__init__"}, "Least": {"__init__"}, "Most": {"__init__"}, "First": {"__init__"}, "Second": {"__init__"},
 }
 
 
