@@ -1,4 +1,7 @@
-"""Fences made of other ones: moved, turned, mirrored, begun elsewhere, grown, with corners put or left out."""
+"""Fences made of other ones: moved, turned, mirrored, begun elsewhere, grown, with corners put or left out.
+
+What takes corners expects those of a fence, as tuples, and returns such ones.
+"""
 
 from baysout.errors import Misfit, TooMany
 from baysout.fences import Fence, want_fence
@@ -7,9 +10,35 @@ from baysout.points import lies_between
 from baysout.wants import want_number, want_point
 
 
-def want_corner(fence, at):
-    """Raises BadNumber for what is no number of a corner of the fence."""
-    want_number(at, "at", 0, fence.many - 1)
+def want_corner(corners, at):
+    """Raises BadNumber for what is no number of a corner."""
+    want_number(at, "at", 0, len(corners) - 1)
+
+
+def corners_from(corners, at):
+    """The corners begun at corner at."""
+    want_corner(corners, at)
+    return corners[at:] + corners[:at]
+
+
+def corners_with(corners, at, point):
+    """The corners with a straight one more, on side at."""
+    want_corner(corners, at)
+    want_point(point, "point")
+    put = tuple(point)
+    if not lies_between(corners[at], corners[(at + 1) % len(corners)], put):
+        raise Misfit("point")
+    if len(corners) >= MOST_CORNERS:
+        raise TooMany("corners", MOST_CORNERS)
+    return corners[:at + 1] + (put,) + corners[at + 1:]
+
+
+def corners_without(corners, at):
+    """The corners without the straight corner at."""
+    want_corner(corners, at)
+    if turn_at(corners, at) != 0:
+        raise Misfit("at")
+    return corners[:at] + corners[at + 1:]
 
 
 def moved(fence, by):
@@ -40,8 +69,7 @@ def mirrored(fence):
 def begun(fence, at):
     """The fence whose corner 0 is corner at."""
     want_fence(fence, "fence")
-    want_corner(fence, at)
-    return Fence(fence.corners[at:] + fence.corners[:at])
+    return Fence(corners_from(fence.corners, at))
 
 
 def grown(fence, factor):
@@ -54,23 +82,13 @@ def grown(fence, factor):
 def with_corner(fence, at, point):
     """The fence with a straight corner more, on its side at."""
     want_fence(fence, "fence")
-    want_corner(fence, at)
-    want_point(point, "point")
-    corners = fence.corners
-    if not lies_between(corners[at], corners[(at + 1) % fence.many], tuple(point)):
-        raise Misfit("point")
-    if fence.many >= MOST_CORNERS:
-        raise TooMany("corners", MOST_CORNERS)
-    return Fence(corners[:at + 1] + (point,) + corners[at + 1:])
+    return Fence(corners_with(fence.corners, at, point))
 
 
 def without_corner(fence, at):
     """The fence without its straight corner at."""
     want_fence(fence, "fence")
-    want_corner(fence, at)
-    if turn_at(fence.corners, at) != 0:
-        raise Misfit("at")
-    return Fence(fence.corners[:at] + fence.corners[at + 1:])
+    return Fence(corners_without(fence.corners, at))
 
 
 def straightened(fence):

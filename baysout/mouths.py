@@ -3,7 +3,7 @@
 What is told of corners expects those of a fence, as tuples.
 """
 
-from baysout.checks import is_point
+from baysout.checks import is_point, is_within
 from baysout.errors import BadMouth
 from baysout.fences import want_fence
 from baysout.hulls import edges_among
@@ -42,16 +42,22 @@ def first_among(corners):
     return tuple(sorted(mouths))
 
 
-def has_mouth(corners, value):
-    """Whether any value is a mouth of a fence of these corners."""
+def are_numbers(corners, value):
+    """Whether any value is a pair of numbers of these corners."""
     if not is_point(value):
         return False
+    return is_within(value[0], 0, len(corners) - 1) and is_within(value[1], 0, len(corners) - 1)
+
+
+def has_mouth(corners, value):
+    """Whether any value is a mouth of a fence of these corners."""
+    if not are_numbers(corners, value):
+        return False
+    # A line that has no corner at its right goes along a hull edge, and corners that are
+    # on it come along the fence as they come along the line: so p comes ahead of q.
     p, q = value
-    for row in edge_rows(corners):
-        numbers = [at for _, at in row]
-        if p in numbers and q in numbers and leaves_line(row, numbers.index(p), numbers.index(q)):
-            return True
-    return False
+    turns = [cross_of(corners[p], corners[q], corner) for corner in corners]
+    return min(turns) >= 0 and max([turns[at] for at in numbers_from(p, q, len(corners))]) > 0
 
 
 def stretch_along(corners, mouth):

@@ -1,7 +1,7 @@
 """Rows of points that are gone round, as tuples: what must be so for them to be a fence's corners."""
 
 from baysout.checks import is_point
-from baysout.points import cross_of, lies_on, stretches_meet
+from baysout.points import are_joined, cross_of, lies_on
 
 LEAST_CORNERS = 3
 MOST_CORNERS = 400
@@ -27,23 +27,28 @@ def boxed_side(corners, at):
 
 
 def do_sides_meet(corners, one, other):
-    """Whether two sides that are no neighbours have a point in common."""
+    """Whether two sides, the boxes about which meet, are no neighbours and have a point in common."""
     many = len(corners)
     if (one - other) % many in (1, many - 1):
         return False
     after, behind = (one + 1) % many, (other + 1) % many
-    return stretches_meet(corners[one], corners[after], corners[other], corners[behind])
+    return are_joined(corners[one], corners[after], corners[other], corners[behind])
 
 
-def meets_itself(corners):
-    """Whether any two sides that are no neighbours have a point in common."""
+def do_parts_meet(corners, parts):
+    """Whether any two sides of unlike parts that are no neighbours have a point in common.
+
+    A list tells for each side the part to which it belongs.
+    """
     # By their least x: each side is compared only until one begins beyond its greatest x.
     boxes = sorted([boxed_side(corners, at) for at in range(len(corners))])
     for k, (_, right, low, high, one) in enumerate(boxes):
         for left, _, bottom, top, other in boxes[k + 1:]:
             if left > right:
                 break
-            if bottom <= high and low <= top and do_sides_meet(corners, one, other):
+            if bottom > high or low > top or parts[one] == parts[other]:
+                continue
+            if do_sides_meet(corners, one, other):
                 return True
     return False
 
@@ -70,7 +75,7 @@ def are_corners(value):
     corners = tuple([tuple(point) for point in value])
     # A corner that stands twice, and one at which one goes straight back, need no look of their
     # own: there the sides ahead and behind meet, or of a triangle nothing is gone round.
-    return twice_area(corners) > 0 and not meets_itself(corners)
+    return twice_area(corners) > 0 and not do_parts_meet(corners, list(range(len(corners))))
 
 
 def place_in(corners, point):

@@ -43,11 +43,9 @@ def are_beside(one, other, third, fourth):
     return (first > 0 and second > 0) or (first < 0 and second < 0)
 
 
-def stretches_meet(one, other, third, fourth):
-    """Whether the stretches from one to other and from third to fourth have a point in common."""
+def are_joined(one, other, third, fourth):
+    """Whether two stretches have a point in common, the boxes about which have one."""
     # The boxes decide where all four points lie on one line, or a stretch is one point.
-    if not boxes_meet(one, other, third, fourth):
-        return False
     if are_beside(one, other, third, fourth):
         return False
     return not are_beside(third, fourth, one, other)
@@ -59,7 +57,7 @@ def do_meet(one, other, third, fourth):
     want_point(other, "other")
     want_point(third, "third")
     want_point(fourth, "fourth")
-    return stretches_meet(one, other, third, fourth)
+    return boxes_meet(one, other, third, fourth) and are_joined(one, other, third, fourth)
 
 
 def are_parted(one, other, third, fourth):

@@ -1,13 +1,16 @@
 """Fences for the tests, and checks that several test files use."""
 
 import functools
+import math
 import random
 import time
 import unittest
 
+from baysout.changed import begun, with_corner, without_corner
 from baysout.errors import BadFence
 from baysout.fences import Fence
-from baysout.mouths import edge_rows, leaves_line
+from baysout.headlands import headlands, turned_in
+from baysout.mouths import edge_rows, leaves_line, mouths_of
 from baysout.turnings import corners_out, turned_out
 
 SQUARE = ((0, 0), (4, 0), (4, 4), (0, 4))
@@ -34,7 +37,8 @@ NO_POINTS = NOTHING + (
 )
 NO_FENCES = NOTHING + (0, SQUARE, list(SQUARE), "0 0 / 4 0 / 4 4", Fence)
 
-SECONDS = 1.5
+# What is asked for takes less than one; a busy machine takes longer.
+SECONDS = 5
 
 
 def fences_of_all_kinds():
@@ -117,6 +121,55 @@ def film_by(fence, choose, numbers):
         film.append(numbers.choice(choose(fence)))
         fence = turned_out(fence, film[-1])
     return film
+
+
+def points_on_sides(fence):
+    """For each side that has points between its ends one of them: triples of the side's number, x and y."""
+    found = []
+    for at, ((x, y), (a, b)) in enumerate(zip(fence.corners, fence.sides)):
+        most = math.gcd(a, b)
+        if most > 1:
+            part = most // 2 + most % 2
+            found.append((at, x + a // most * part, y + b // most * part))
+    return found
+
+
+def steps_from(fence):
+    """All steps out, in, drop and begin that can be done, some steps put; for each word a list of them."""
+    straight = [at for at in range(fence.many) if not cross_at(fence, at)]
+    return {
+        "out": [("out",) + mouth for mouth in mouths_of(fence)],
+        "in": [("in",) + pair for pair in headlands(fence)],
+        "put": [("put",) + spot for spot in points_on_sides(fence)] if fence.many < 16 else [],
+        "drop": [("drop", at) for at in straight],
+        "begin": [("begin", at) for at in range(fence.many)],
+    }
+
+
+def cross_at(fence, at):
+    """How one turns at a corner: above 0 to the left, 0 straight on."""
+    (a, b), (c, d) = fence.sides[at - 1], fence.sides[at]
+    return a * d - b * c
+
+
+def behind_step(fence, step):
+    """The fence that one step makes of another, by the functions of the table."""
+    word, at, *more = step
+    if word in ("out", "in"):
+        return {"out": turned_out, "in": turned_in}[word](fence, (at, *more))
+    if word == "put":
+        return with_corner(fence, at, tuple(more))
+    return {"drop": without_corner, "begin": begun}[word](fence, at)
+
+
+def drawn_steps(fence, many, numbers):
+    """So many steps, drawn at random, each word as often where it can be; and the fences, this one first."""
+    steps, fences = [], [fence]
+    for _ in range(many):
+        rows = [row for row in steps_from(fences[-1]).values() if row]
+        steps.append(numbers.choice(numbers.choice(rows)))
+        fences.append(behind_step(fences[-1], steps[-1]))
+    return steps, fences
 
 
 @functools.cache

@@ -178,3 +178,37 @@ def field_by_places(corners):
     kept = [corner for at, corner in enumerate(walked) if cross(row[at - 1], row[at]) != 0]
     at = kept.index(min(kept))
     return (spot, tuple(row)), tuple(kept[at:] + kept[:at])
+
+
+def put_half_round(corners, p, q):
+    """The corners, those from p to q put half round about the middle of the two, one by one as [6] tells."""
+    many, row = len(corners), list(corners)
+    for i in range((q - p) % many + 1):
+        (x, y), (a, b), (c, d) = corners[(q - i) % many], corners[p], corners[q]
+        row[(p + i) % many] = (a + c - x, b + d - y)
+    return tuple(row)
+
+
+def all_headlands(corners):
+    """All headlands, as [10] tells them: each pair is tried."""
+    many, found = len(corners), []
+    for p in range(many):
+        for q in range(many):
+            row = put_half_round(corners, p, q)
+            if p != q and is_fence_row(row) and (p, q) in all_mouths(row)[0]:
+                found.append((p, q))
+    return tuple(found)
+
+
+def word_corners(word):
+    """The corners of a word, None if the walker doesn't come back: all points of the walk are written down."""
+    way, spot, walk, ways = 1, 0, [], []
+    for letter in word:
+        way = way * {"l": 1j, "r": -1j, "f": 1}[letter]
+        if letter == "f":
+            walk.append(spot)
+            ways.append(way)
+            spot += way
+    if spot != 0:
+        return None
+    return [(int(here.real), int(here.imag)) for at, here in enumerate(walk) if at == 0 or ways[at] != ways[at - 1]]

@@ -10,7 +10,7 @@ import unittest
 
 SECTIONS = (
     "checks", "papers", "points", "fences", "changed", "hulls", "mouths", "turnings", "films", "lifts", "ends",
-    "check_ends", "counts", "check_counts",
+    "check_ends", "counts", "check_counts", "headlands", "steps", "alike", "check_alike", "words",
 )
 FOLDER = pathlib.Path(__file__).parent / "examples"
 
@@ -60,7 +60,7 @@ class Examples(unittest.TestCase):
                         # The document tells the class alone.
                         outcome = (outcome[0], None)
                     self.assertEqual(outcome, wanted)
-        self.assertEqual(many, 71)
+        self.assertEqual(many, 100)
         self.assertEqual(sorted(SECTIONS), sorted(path.stem for path in FOLDER.glob("*.txt")))
 
 

@@ -2,17 +2,19 @@ import random
 import unittest
 
 from baysout.changed import begun, grown, moved
+from baysout.counts import bite
 from baysout.errors import BadFilm, BadLine, BadMouth, BadText, TooMany
 from baysout.fences import Fence
 from baysout.films import film_of, film_out, film_text, played, stages
-from baysout.hulls import is_convex
+from baysout.hulls import covers, is_convex
 from baysout.lifts import directions_of, to_and_fro
-from baysout.mouths import first_mouths, mouths_of
+from baysout.mouths import bay_area2, first_mouths, mouths_of
 from baysout.turnings import turned_out
 from tests.makers import (
     GREAT, NO_POINTS, NOTCH, SQUARE, TUB, Case, comb_corners, fences_of_all_kinds, film_by,
     narrow_film, slanted, spiral_corners, swinging_corners,
 )
+from tests.oracles import is_fence_row
 
 NO_PAIRS = NO_POINTS + (
     (1, 1), [0, 0], (399, 399), (-1, 2), (2, -1), (400, 2), (2, 400), (GREAT, 1), (1, -GREAT), (True, 2), (2, True),
@@ -54,6 +56,23 @@ class Played(Case):
                 other += any(film[at] not in first_mouths(told[at]) for at in range(len(film)))
         self.assertGreater(over, 50)
         self.assertGreater(other, 50)
+
+    def test_facts_along_films(self):
+        numbers = random.Random(19)
+        for fence in fences_of_all_kinds():
+            for choose in (mouths_of, first_mouths):
+                film = film_by(fence, choose, numbers)
+                told = stages(fence, film)
+                for pair, stage, there in zip(film, told, told[1:]):
+                    self.assertTrue(is_fence_row(there.corners))
+                    self.assertEqual(there.area2, stage.area2 + 2 * bay_area2(stage, pair))
+                    self.assertIs(covers(there, stage), True)
+                    self.assertEqual(sorted(there.sides), sorted(fence.sides))
+                    self.assertEqual([there.corners[at] for at in pair], [stage.corners[at] for at in pair])
+                    self.assertEqual(bite(stage, pair), to_and_fro(stage) - to_and_fro(there))
+                self.assertEqual(len({stage.corners for stage in told}), len(told))
+                bites = [bite(stage, pair) for pair, stage in zip(film, told)]
+                self.assertEqual(sum(bites), to_and_fro(fence) - len(directions_of(fence)))
 
     def test_none(self):
         for fence in (Fence(SQUARE), Fence(TUB)):

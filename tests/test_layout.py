@@ -23,11 +23,17 @@ INTERFACE = {
     "check_ends": "ends_at shows_ended",
     "counts": "Least Most First Second bite at_most all_stages film_counts least_film most_film winner",
     "check_counts": "shows_least shows_most shows_winner",
+    "headlands": "headlands turned_in",
+    "steps": "is_step done taken_back",
+    "alike": "Led Unlike led",
+    "check_alike": "shows_led",
+    "words": "fence_of word_of",
 }
 METHODS = {
     "Paper": {"__init__", "__eq__", "__bool__"}, "Denial": {"__init__", "__eq__", "__bool__"},
     "Fence": {"__init__", "__eq__", "__str__", "read"},
     "Ended": {"__init__"}, "Least": {"__init__"}, "Most": {"__init__"}, "First": {"__init__"}, "Second": {"__init__"},
+    "Led": {"__init__"}, "Unlike": {"__init__"},
 }
 
 
