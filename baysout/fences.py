@@ -15,15 +15,15 @@ def can_stand(at, item):
     return item == "/" if at % 3 == 2 else is_number(item)
 
 
-def corners_in(items):
-    """The corners that the items of a fence's text tell, be they those of a fence or not."""
-    for at, item in enumerate(items):
-        if not can_stand(at, item):
+def corners_in(items, begin):
+    """The corners that the items from a number on tell as a fence's text, be they those of a fence or not."""
+    for at in range(begin, len(items)):
+        if not can_stand(at - begin, items[at]):
             raise BadText(0, at)
-    many = len(items)
+    many = len(items) - begin
     if many % 3 != 2 or many < 3 * LEAST_CORNERS - 1:
-        raise BadText(0, many)
-    return [(int(items[at]), int(items[at + 1])) for at in range(0, many, 3)]
+        raise BadText(0, len(items))
+    return [(int(items[at]), int(items[at + 1])) for at in range(begin, len(items), 3)]
 
 
 class Fence:
@@ -46,12 +46,16 @@ class Fence:
     @staticmethod
     def read(text):
         """The fence with this text."""
-        items = items_of(text)
-        corners = corners_in(items)
-        try:
-            return Fence(corners)
-        except BadFence:
-            raise BadText(0, len(items) - 1) from None
+        return fence_in(items_of(text), 0)
+
+
+def fence_in(items, begin):
+    """The fence whose text the items from a number on are."""
+    corners = corners_in(items, begin)
+    try:
+        return Fence(corners)
+    except BadFence:
+        raise BadText(0, len(items) - 1) from None
 
 
 def want_fence(value, part):

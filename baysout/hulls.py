@@ -1,7 +1,7 @@
 """The hull of a fence, and whether one fence covers another."""
 
 from baysout.fences import want_fence
-from baysout.outlines import place_in, turn_at
+from baysout.outlines import place_in, stretches_of, turn_at
 from baysout.points import cross_of, do_cross, lies_between
 
 
@@ -52,15 +52,10 @@ def is_convex(fence):
     return are_convex(fence.corners)
 
 
-def ends_of(fence):
-    """For each side the pair of the corners at its ends."""
-    return list(zip(fence.corners, fence.corners[1:] + fence.corners[:1]))
-
-
 def do_sides_cross(one, other):
     """Whether a side of one fence and a side of the other cross at a point that is no corner."""
-    stretches = ends_of(other)
-    for start, end in ends_of(one):
+    stretches = stretches_of(other.corners)
+    for start, end in stretches_of(one.corners):
         if any([do_cross(start, end, low, high) for low, high in stretches]):
             return True
     return False
@@ -82,7 +77,7 @@ def covers(one, other):
     # each piece of the other fence is on the land wholly, or off it but for its ends, as its
     # middle is. A fence's land has no holes: where all of a rim is on it, so is what it goes round.
     doubled = [(2 * x, 2 * y) for x, y in one.corners]
-    for start, end in ends_of(other):
+    for start, end in stretches_of(other.corners):
         for low, high in pieces_of(start, end, one.corners):
             if place_in(doubled, (low[0] + high[0], low[1] + high[1])) == "off":
                 return False

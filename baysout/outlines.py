@@ -7,10 +7,14 @@ LEAST_CORNERS = 3
 MOST_CORNERS = 400
 
 
+def stretches_of(corners):
+    """For each side the pair of the corners at its ends."""
+    return list(zip(corners, corners[1:] + corners[:1]))
+
+
 def sides_of(corners):
     """For each corner the next one less this one, as pairs."""
-    ends = corners[1:] + corners[:1]
-    return tuple([(other[0] - one[0], other[1] - one[1]) for one, other in zip(corners, ends)])
+    return tuple([(other[0] - one[0], other[1] - one[1]) for one, other in stretches_of(corners)])
 
 
 def turn_at(corners, at):
@@ -55,8 +59,13 @@ def do_parts_meet(corners, parts):
 
 def twice_area(corners):
     """Twice the area that is gone round, the land at the left hand; below 0 if it is at the right."""
-    ends = corners[1:] + corners[:1]
-    return sum([one[0] * other[1] - other[0] * one[1] for one, other in zip(corners, ends)])
+    return sum([one[0] * other[1] - other[0] * one[1] for one, other in stretches_of(corners)])
+
+
+def box_about(points):
+    """The least and the greatest x, the least and the greatest y of some points."""
+    across, up = [x for x, _ in points], [y for _, y in points]
+    return (min(across), max(across), min(up), max(up))
 
 
 def are_points(value):

@@ -32,3 +32,8 @@ def is_number(item):
     if not digits.isascii() or not digits.isdigit() or len(digits) > MOST_DIGITS:
         return False
     return item == "0" or not digits.startswith("0")
+
+
+def are_strings(value):
+    """Whether any value is a list of strings, perhaps of none."""
+    return isinstance(value, (list, tuple)) and all([isinstance(line, str) for line in value])

@@ -7,7 +7,7 @@ import time
 import unittest
 
 from baysout.changed import begun, with_corner, without_corner
-from baysout.errors import BadFence
+from baysout.errors import BadFence, BadLine
 from baysout.fences import Fence
 from baysout.headlands import headlands, turned_in
 from baysout.mouths import edge_rows, leaves_line, mouths_of
@@ -204,6 +204,14 @@ class Case(unittest.TestCase):
             function(*args, **named)
         self.assertIs(type(caught.exception), error)
         self.assertEqual(tuple(vars(caught.exception).values()), fields)
+
+    def raises_line(self, line, error, fields, function, *args):
+        """Checks that a call raises the BadLine of this line and this error, with these fields."""
+        with self.assertRaises(BadLine) as caught:
+            function(*args)
+        told = caught.exception
+        self.assertEqual([type(told), told.line, type(told.error)], [BadLine, line, error])
+        self.assertEqual(tuple(vars(told.error).values()), fields)
 
     def no_fence_first(self, function, *more):
         """Checks that a function wants a Fence, ahead of all else."""

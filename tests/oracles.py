@@ -212,3 +212,33 @@ def word_corners(word):
     if spot != 0:
         return None
     return [(int(here.real), int(here.imag)) for at, here in enumerate(walk) if at == 0 or ways[at] != ways[at - 1]]
+
+
+def rim_of_squares(squares):
+    """The corners of the rim of unit squares, told by their lower left corners, from (0, 0) on, none straight."""
+    edges = set()
+    for x, y in squares:
+        round_it = [(x, y), (x + 1, y), (x + 1, y + 1), (x, y + 1)]
+        for edge in ring(round_it):
+            if edge[::-1] in edges:
+                edges.remove(edge[::-1])
+            else:
+                edges.add(edge)
+    following = dict(edges)
+    assert len(following) == len(edges)
+    walked = [(0, 0)]
+    while following[walked[-1]] != (0, 0):
+        walked.append(following[walked[-1]])
+    assert len(walked) == len(edges)
+    many = len(walked)
+    return tuple(spot for at, spot in enumerate(walked)
+                 if cross(less(spot, walked[at - 1]), less(walked[(at + 1) % many], spot)) != 0)
+
+
+def are_apart_slowly(one, other):
+    """Whether the lands in two rows of corners have no point in common: each side beside each one."""
+    for side in ring(one):
+        for there in ring(other):
+            if common_points(*side, *there):
+                return False
+    return place_of(one, other[0]) == "off" and place_of(other, one[0]) == "off"

@@ -11,6 +11,7 @@ import unittest
 SECTIONS = (
     "checks", "papers", "points", "fences", "changed", "hulls", "mouths", "turnings", "films", "lifts", "ends",
     "check_ends", "counts", "check_counts", "headlands", "steps", "alike", "check_alike", "words",
+    "makes", "pictures", "desks", "charts", "check_charts",
 )
 FOLDER = pathlib.Path(__file__).parent / "examples"
 
@@ -36,6 +37,12 @@ def outcome_of(statement, names):
         return (error.__class__.__name__, tuple(vars(error).values()))
 
 
+def made_in(module):
+    """The functions and classes that a file defines: an earlier example may have kept something by their names."""
+    made = vars(importlib.import_module(module))
+    return {name: value for name, value in made.items() if getattr(value, "__module__", None) == module}
+
+
 def wanted_of(told):
     """The outcome that a line of the document tells."""
     if told is None or not told.startswith("raises "):
@@ -52,6 +59,7 @@ class Examples(unittest.TestCase):
         for section in SECTIONS:
             names.update(vars(importlib.import_module(f"baysout.{section}")))
         for section in SECTIONS:
+            names.update(made_in(f"baysout.{section}"))
             for statement, told in examples_of((FOLDER / f"{section}.txt").read_text()):
                 many += 1
                 with self.subTest(section=section, statement=statement):
@@ -60,7 +68,7 @@ class Examples(unittest.TestCase):
                         # The document tells the class alone.
                         outcome = (outcome[0], None)
                     self.assertEqual(outcome, wanted)
-        self.assertEqual(many, 100)
+        self.assertEqual(many, 136)
         self.assertEqual(sorted(SECTIONS), sorted(path.stem for path in FOLDER.glob("*.txt")))
 
 

@@ -1,6 +1,7 @@
 """That the interface stands in the files that list it, and that files keep to the sizes that are set."""
 
 import ast
+import functools
 import pathlib
 import unittest
 
@@ -28,15 +29,23 @@ INTERFACE = {
     "alike": "Led Unlike led",
     "check_alike": "shows_led",
     "words": "fence_of word_of",
+    "makes": "comb spiral stairs zigzag",
+    "pictures": "picture_of picture_beside pictures_of",
+    "desks": "Desk",
+    "charts": "are_apart Chart outings_of let_of put_out behind fields_of meetings Free Clash judged",
+    "check_charts": "shows_judged",
 }
 METHODS = {
     "Paper": {"__init__", "__eq__", "__bool__"}, "Denial": {"__init__", "__eq__", "__bool__"},
     "Fence": {"__init__", "__eq__", "__str__", "read"},
     "Ended": {"__init__"}, "Least": {"__init__"}, "Most": {"__init__"}, "First": {"__init__"}, "Second": {"__init__"},
-    "Led": {"__init__"}, "Unlike": {"__init__"},
+    "Led": {"__init__"}, "Unlike": {"__init__"}, "Free": {"__init__"}, "Clash": {"__init__"},
+    "Desk": {"__init__", "__eq__", "tell", "names", "fence", "lines", "twin", "read"},
+    "Chart": {"__init__", "__eq__", "__str__", "read", "fence"},
 }
 
 
+@functools.cache
 def trees():
     return {path.stem: ast.parse(path.read_text()) for path in sorted(FOLDER.glob("*.py"))}
 
