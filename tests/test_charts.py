@@ -1,7 +1,7 @@
 import random
 import unittest
 
-from baysout.changed import begun, grown, mirrored, moved
+from baysout.changed import begun, grown, mirrored, moved, turned
 from baysout.charts import (
     Chart, Clash, Free, are_apart, behind, fields_of, judged, let_of, meetings, outings_of, put_out,
 )
@@ -56,6 +56,24 @@ class Apart(Case):
         # One corner on the other's side.
         self.both(Fence(((0, 0), (4, 0), (0, 4))), Fence(((2, 2), (5, 2), (5, 5))), False)
         self.both(Fence(((0, 0), (4, 0), (0, 4))), Fence(((2, 3), (5, 2), (5, 5))), True)
+
+    def test_sides_on_one_line(self):
+        # Sides that lie on one line, but have no point in common; and those that have.
+        cove, slant = Fence(COVE), Fence(slanted(COVE))
+        for x, y, told in ((4, 7, True), (3, 7, False), (4, 1, False), (4, 4, True), (4, 3, False), (5, 7, False)):
+            for quarters in range(4):
+                box = moved(Fence(BOX), (x, y))
+                self.both(turned(cove, quarters), turned(box, quarters), told)
+                self.both(turned(slant, quarters), turned(Fence(slanted(box.corners)), quarters), told)
+                self.both(mirrored(turned(slant, quarters)), mirrored(turned(Fence(slanted(box.corners)), quarters)), told)
+
+    def test_boxes_that_overlap(self):
+        # A stem that goes down into the bay, from a bar above it; a step of it is level with the upper sides of cove.
+        cove = Fence(COVE)
+        for left, told in ((4, True), (3, False)):
+            stem = Fence(((5, 5), (6, 5), (6, 12), (15, 12), (15, 14), (-5, 14), (-5, 12), (left, 12), (left, 9), (5, 9)))
+            for quarters in range(4):
+                self.both(turned(cove, quarters), turned(stem, quarters), told)
 
     def test_against_all_sides(self):
         numbers, found = random.Random(62), {True: 0, False: 0}
@@ -141,7 +159,7 @@ class Charts(Case):
         self.assertEqual(Chart([("a", square), ("b", moved(box, (5, 4)))]).names, ("a", "b"))
 
     def test_names(self):
-        for name in ("a", "z", "a0", "abcdefghijkl", "x12345678901"):
+        for name in tuple("abcdefghijklmnopqrstuvwxyz") + ("a0", "abcdefghijkl", "x12345678901", "opqrstuvwxyz"):
             self.assertEqual(Chart([(name, Fence(BOX))]).names, (name,))
             self.assertEqual(str(Chart([(name, Fence(BOX))])), f"{name} 0 0 / 2 0 / 2 2 / 0 2")
 
@@ -254,6 +272,19 @@ class Outings(Case):
             self.assertEqual(len(outings_of(chart)), 4)
         # Land behind a turning that lies within the gained land wholly, without any side met.
         self.assertEqual(let_of(Chart([("c", grown(cove, 9)), ("b", moved(box, (40, 70)))])), ())
+
+    def test_each_way(self):
+        # A dent on each side, turned out towards what lies just within its reach, and just beyond it.
+        dent, box = grown(Fence(NOTCH), 10), Fence(BOX)
+        for quarters in range(4):
+            for by in ((0, 0), (1000, 1000), (-1000, 1000), (1000, -1000), (-1000, -1000)):
+                fence = moved(turned(dent, quarters), by)
+                for x, y, let in ((19, 60, False), (19, 61, True), (19, 58, False), (7, 49, False), (6, 49, True),
+                                  (2, 45, True), (32, 49, True), (31, 49, False), (19, 32, False)):
+                    there = moved(turned(moved(box, (x, y)), quarters), by)
+                    chart = Chart([("a", fence), ("b", there)])
+                    self.assertEqual(let_of(chart), (("a", 2, 4),) if let else ())
+                    self.assertEqual(apart(turned_out(fence, (2, 4)), there), let)
 
     def test_wrong_outings(self):
         chart = Chart([("a", Fence(NOTCH)), ("b", moved(Fence(TUB), (20, 0)))])

@@ -141,7 +141,7 @@ class Lines(Case):
             self.raises(BadText, (0, 0), Desk().tell, value)
 
     def test_names(self):
-        for name in ("a", "z", "a0", "z9", "abcdefghijkl", "a12345678901", "new", "undo", "f"):
+        for name in tuple("abcdefghijklmnopqrstuvwxyz") + ("a0", "z9", "a23456789", "mnopqrstuvwx", "abcdefghijkl", "a12345678901", "new", "undo", "f"):
             desk = desk_with(f"new {name} 0 0 / 1 0 / 0 1")
             self.assertEqual([desk.names(), desk.tell(f"forget {name}"), desk.names()], [(name,), name, ()])
         for name in ("", "0", "0a", "9abc", "A", "aB", "abcdefghijklm", "a_", "a-b", "-", "/", "a.b", "\u00e9", "a\u0660",
