@@ -32,25 +32,36 @@ def places_of(fence):
     return places
 
 
-def sorted_row(fence):
-    """The pair of the corner at place 0 and of the sides at the places 0 to n - 1."""
-    want_fence(fence, "fence")
+def row_by(fence, places):
+    """The pair of the corner at place 0 and of the sides at the places 0 to n - 1, the sides having these places."""
     many = fence.many
     x, y = fence.corners[0]
     row = [(0, 0)] * many
-    for side, place in zip(fence.sides, places_of(fence)):
+    for side, place in zip(fence.sides, places):
         x -= side[0] * (place // many)
         y -= side[1] * (place // many)
         row[place % many] = side
     return ((x, y), tuple(row))
 
 
-def field_of(fence):
-    """The corners of the field."""
-    spot, row = sorted_row(fence)
+def walked_from(spot, row):
+    """The corners that one comes to from the first one, along sides that lead round."""
     corners = [spot]
     for x, y in row[:-1]:
         corners.append((corners[-1][0] + x, corners[-1][1] + y))
+    return tuple(corners)
+
+
+def sorted_row(fence):
+    """The pair of the corner at place 0 and of the sides at the places 0 to n - 1."""
+    want_fence(fence, "fence")
+    return row_by(fence, places_of(fence))
+
+
+def field_of(fence):
+    """The corners of the field."""
+    spot, row = sorted_row(fence)
+    corners = walked_from(spot, row)
     kept = [corner for at, corner in enumerate(corners) if turn_at(corners, at) != 0]
     least = kept.index(min(kept))
     return tuple(kept[least:] + kept[:least])

@@ -54,13 +54,18 @@ def place_for(row, direction):
     return low
 
 
+def directions_among(sides):
+    """The directions of some sides, in their order."""
+    row = []
+    for direction in sorted(set([shortened(x, y) for x, y in sides])):
+        row.insert(place_for(row, direction), direction)
+    return tuple(row)
+
+
 def directions_of(fence):
     """The directions of the sides, in their order."""
     want_fence(fence, "fence")
-    row = []
-    for direction in sorted(set([shortened(x, y) for x, y in fence.sides])):
-        row.insert(place_for(row, direction), direction)
-    return tuple(row)
+    return directions_among(fence.sides)
 
 
 def rounds_between(one, other):
@@ -73,10 +78,9 @@ def rounds_between(one, other):
     return 0
 
 
-def lifts_of(fence):
-    """The lifted directions of all sides, side 0 first."""
-    want_fence(fence, "fence")
-    directions = [shortened(x, y) for x, y in fence.sides]
+def lifts_along(sides):
+    """The lifted directions of sides that follow one another, the first one with rounds 0."""
+    directions = [shortened(x, y) for x, y in sides]
     lifts = [(0, directions[0])]
     for one, other in zip(directions, directions[1:]):
         rounds = lifts[-1][0] + rounds_between(one, other)
@@ -84,19 +88,37 @@ def lifts_of(fence):
     return tuple(lifts)
 
 
+def ranks_along(sides):
+    """The ranks of all sides of a fence, side 0 first."""
+    order = directions_among(sides)
+    numbers = {direction: at for at, direction in enumerate(order)}
+    return tuple([len(order) * rounds + numbers[direction] for rounds, direction in lifts_along(sides)])
+
+
+def fro_along(sides):
+    """By how much a fence of these sides turns to and fro, T."""
+    ranks = ranks_along(sides)
+    again = ranks[0] + len(directions_among(sides))
+    following = ranks[1:] + (again,)
+    return sum([abs(other - one) for one, other in zip(ranks, following)])
+
+
+def lifts_of(fence):
+    """The lifted directions of all sides, side 0 first."""
+    want_fence(fence, "fence")
+    return lifts_along(fence.sides)
+
+
 def ranks_of(fence):
     """The ranks of all sides, side 0 first."""
-    order = directions_of(fence)
-    numbers = {direction: at for at, direction in enumerate(order)}
-    return tuple([len(order) * rounds + numbers[direction] for rounds, direction in lifts_of(fence)])
+    want_fence(fence, "fence")
+    return ranks_along(fence.sides)
 
 
 def to_and_fro(fence):
     """By how much the fence turns to and fro, T."""
-    ranks = ranks_of(fence)
-    again = ranks[0] + len(directions_of(fence))
-    following = ranks[1:] + (again,)
-    return sum([abs(other - one) for one, other in zip(ranks, following)])
+    want_fence(fence, "fence")
+    return fro_along(fence.sides)
 
 
 def most_bites(fence):

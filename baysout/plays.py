@@ -69,13 +69,39 @@ class Plays:
             at = self.moves[at][mouths[0]]
         return film
 
-    def ends_behind(self, film):
-        """Whether any value is a plain film that ends."""
+    def turnings_made(self):
+        """For each stage how many turnings a plain film that leads to it has: the least, and the most."""
+        # No film has as many turnings as there are stages.
+        least, most = [len(self.rows)] * len(self.rows), [0] * len(self.rows)
+        least[0] = 0
+        for at in self.from_last()[::-1]:
+            for there in self.moves[at].values():
+                least[there] = min(least[there], least[at] + 1)
+                most[there] = max(most[there], most[at] + 1)
+        return least, most
+
+    def film_to(self, made, at):
+        """A plain film to a stage, along which as many turnings are made as a list tells."""
+        film = []
+        while made[at] > 0:
+            found = [(ahead, mouth) for ahead, moves in enumerate(self.moves) for mouth, there in moves.items()
+                     if there == at and made[ahead] == made[at] - 1]
+            at, mouth = found[0]
+            film.append(mouth)
+        return film[::-1]
+
+    def stage_behind(self, film):
+        """The number of the stage behind any value, if it is a plain film, ended or not; None if it is none."""
         if not isinstance(film, (list, tuple)):
-            return False
+            return None
         at = 0
         for pair in film:
             if not is_point(pair) or tuple(pair) not in self.moves[at]:
-                return False
+                return None
             at = self.moves[at][tuple(pair)]
-        return not self.moves[at]
+        return at
+
+    def ends_behind(self, film):
+        """Whether any value is a plain film that ends."""
+        at = self.stage_behind(film)
+        return at is not None and not self.moves[at]

@@ -190,6 +190,15 @@ def narrow_film():
         told.append(corners_out(told[-1], film[-1]))
 
 
+def narrow_mouths(fence, many):
+    """A film of so many turnings, of the mouths with the shortest stretches always."""
+    film = []
+    while len(film) < many:
+        film.append(min(((q - p) % fence.many, p, q) for p, q in mouths_of(fence))[1:])
+        fence = turned_out(fence, film[-1])
+    return film
+
+
 def slanted(corners, factor=1):
     """Corners turned by an eighth and grown: no side goes east or north, and all boxes overlap."""
     return [((x - y) * factor, (x + y) * factor) for x, y in corners]

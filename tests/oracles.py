@@ -242,3 +242,73 @@ def are_apart_slowly(one, other):
             if common_points(*side, *there):
                 return False
     return place_of(one, other[0]) == "off" and place_of(other, one[0]) == "off"
+
+
+def put_about(place, mouth, many):
+    """The place with which a place is exchanged when a mouth is turned out: of the stretch in its round."""
+    p, q = mouth
+    last = q if q > p else q + many
+    k = (place - p) // many
+    # The stretch of this round goes from p + k n to the place ahead of last + k n.
+    return p + last - 1 + 2 * k * many - place if place < last + k * many else place
+
+
+def side_at(place, film, many):
+    """The number of the side that stands at a place of the endless row behind a film."""
+    for mouth in film[::-1]:
+        place = put_about(place, mouth, many)
+    return place
+
+
+def place_behind(side, film, many):
+    """The place at which a side of the endless row stands behind a film."""
+    for mouth in film:
+        side = put_about(side, mouth, many)
+    return side
+
+
+def places_that_add_up(corners, places):
+    """The corners by places, in a slow way: the endless row is walked back from corner 0 to place 0, and on."""
+    many, sides = len(corners), [less(other, one) for one, other in ring(corners)]
+    row = {}
+    far = max(abs(place) for place in places) // many + 2
+    for side, place in enumerate(places):
+        for k in range(-2 * far, 2 * far + 1):
+            row[place + k * many] = (side + k * many, sides[side])
+    # Sides that stand from 0 on and were ahead of side 0 are taken off, those that stand ahead of 0 now are put on.
+    x, y = corners[0]
+    for place, (number, (a, b)) in row.items():
+        if -far * many <= place < 0 <= number:
+            x, y = x + a, y + b
+        if number < 0 <= place < far * many:
+            x, y = x - a, y - b
+    walked = [(x, y)]
+    for place in range(many - 1):
+        walked.append((walked[-1][0] + row[place][1][0], walked[-1][1] + row[place][1][1]))
+    return tuple(walked)
+
+
+def table_by_counting(film, many):
+    """The table of a film, turning by turning: of two sides of a stretch the one behind passes the other one."""
+    table, row = [[0] * many for _ in range(many)], None
+    for at in range(len(film)):
+        p, q = film[at]
+        last = q if q > p else q + many
+        row = [side_at(place, film[:at], many) for place in range(p, last)]
+        for k, one in enumerate(row):
+            for other in row[k + 1:]:
+                table[one % many][other % many] += 1
+                table[other % many][one % many] -= 1
+    return tuple(tuple(each) for each in table)
+
+
+def table_by_places(places, reach=6):
+    """The table, as it is told: of all sides how many stand behind a side at first, and ahead of it in the end."""
+    many = len(places)
+    table = [[0] * many for _ in range(many)]
+    for i in range(many):
+        for j in range(many):
+            for k in range(-reach, reach + 1):
+                first, end = j + k * many, places[j] + k * many
+                table[i][j] += (first > i and end < places[i]) - (first < i and end > places[i])
+    return tuple(tuple(row) for row in table)

@@ -7,12 +7,11 @@ from baysout.charts import (
 )
 from baysout.counts import at_most
 from baysout.ends import end_of
-from baysout.errors import BadFence, BadFilm, BadLine, BadMouth, BadText, Misfit, NoName, TooMany, Twice
+from baysout.errors import BadFence, BadFilm, BadMouth, BadText, Misfit, NoName, TooMany, Twice
 from baysout.fences import Fence
 from baysout.films import film_out
 from baysout.hulls import is_convex
 from baysout.makes import comb, spiral, stairs, zigzag
-from baysout.mouths import mouths_of
 from baysout.papers import Denial, Paper
 from baysout.turnings import turned_out
 from tests.makers import (

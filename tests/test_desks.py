@@ -2,7 +2,7 @@ import random
 import unittest
 
 from baysout.desks import Desk
-from baysout.errors import BadFilm, BadLine, BadMouth, BadNumber, BadText, FenceError, Misfit, NoName, TooMany, Twice
+from baysout.errors import BadFilm, BadMouth, BadNumber, BadText, FenceError, Misfit, NoName, TooMany, Twice
 from baysout.fences import Fence
 from baysout.headlands import headlands
 from baysout.makes import comb, spiral, stairs

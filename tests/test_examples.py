@@ -11,7 +11,8 @@ import unittest
 SECTIONS = (
     "checks", "papers", "points", "fences", "changed", "hulls", "mouths", "turnings", "films", "lifts", "ends",
     "check_ends", "counts", "check_counts", "headlands", "steps", "alike", "check_alike", "words",
-    "makes", "pictures", "desks", "charts", "check_charts",
+    "makes", "pictures", "desks", "charts", "check_charts", "tracks", "passes", "check_passes", "when", "check_when",
+    "stories",
 )
 FOLDER = pathlib.Path(__file__).parent / "examples"
 
@@ -68,7 +69,7 @@ class Examples(unittest.TestCase):
                         # The document tells the class alone.
                         outcome = (outcome[0], None)
                     self.assertEqual(outcome, wanted)
-        self.assertEqual(many, 136)
+        self.assertEqual(many, 178)
         self.assertEqual(sorted(SECTIONS), sorted(path.stem for path in FOLDER.glob("*.txt")))
 
 

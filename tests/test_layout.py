@@ -34,12 +34,20 @@ INTERFACE = {
     "desks": "Desk",
     "charts": "are_apart Chart outings_of let_of put_out behind fields_of meetings Free Clash judged",
     "check_charts": "shows_judged",
+    "tracks": "sides_behind places_behind track_of corners_by",
+    "passes": "Order Torn passed passes_of order_of",
+    "check_passes": "shows_order",
+    "when": "Soon Late Never Already when gained land_ever soonest latest",
+    "check_when": "shows_soon shows_late",
+    "stories": "story_of wrong_line story_in shows_story",
 }
 METHODS = {
     "Paper": {"__init__", "__eq__", "__bool__"}, "Denial": {"__init__", "__eq__", "__bool__"},
     "Fence": {"__init__", "__eq__", "__str__", "read"},
     "Ended": {"__init__"}, "Least": {"__init__"}, "Most": {"__init__"}, "First": {"__init__"}, "Second": {"__init__"},
     "Led": {"__init__"}, "Unlike": {"__init__"}, "Free": {"__init__"}, "Clash": {"__init__"},
+    "Order": {"__init__"}, "Torn": {"__init__"}, "Soon": {"__init__"}, "Late": {"__init__"}, "Never": {"__init__"},
+    "Already": {"__init__"},
     "Desk": {"__init__", "__eq__", "tell", "names", "fence", "lines", "twin", "read"},
     "Chart": {"__init__", "__eq__", "__str__", "read", "fence"},
 }

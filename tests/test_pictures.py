@@ -8,9 +8,8 @@ from baysout.films import film_out, stages
 from baysout.makes import comb, stairs, zigzag
 from baysout.mouths import mouths_of
 from baysout.pictures import picture_beside, picture_of, pictures_of
-from baysout.turnings import turned_out
 from tests.makers import (
-    GREAT, NO_FENCES, NOTCH, RULED, SQUARE, TUB, Case, fences_of_all_kinds, film_by, slanted,
+    GREAT, NO_FENCES, NOTCH, RULED, SQUARE, TUB, Case, fences_of_all_kinds, film_by, narrow_mouths, slanted,
     spiral_corners,
 )
 from tests.test_films import NO_FILMS, NO_PAIRS
@@ -193,11 +192,7 @@ class Films(Case):
             film = film_out(fence)
             self.assertGreater(len(film), 10)
             self.assertEqual(len(self.is_short(pictures_of, moved(fence, (-GREAT, 0)), film)), len(film) + 1)
-        narrow = zigzag(61)
-        film = []
-        while len(film) < 60:
-            film.append(min((q - p, p, q) for p, q in mouths_of(narrow))[1:])
-            narrow = turned_out(narrow, film[-1])
+        film = narrow_mouths(zigzag(61), 60)
         self.assertEqual(len(self.is_short(pictures_of, zigzag(61), film)), 61)
 
 

@@ -6,7 +6,7 @@ from baysout.ends import end_of
 from baysout.errors import BadFilm, BadLine, BadMouth, BadNumber, Misfit, TooMany
 from baysout.fences import Fence
 from baysout.films import film_out
-from baysout.headlands import headlands, turned_in
+from baysout.headlands import headlands
 from baysout.mouths import mouths_of
 from baysout.steps import done, is_step, taken_back
 from baysout.turnings import turned_out
